@@ -393,14 +393,14 @@ func TestAggReadRefuses(t *testing.T) {
 	}
 }
 
-// nearTexts tells every text that comes of s by one sign put in, taken out or put in another's place.
-func nearTexts(s string) []string {
+// nearTexts tells every text that comes of s by one of these bytes put in or put in another's place, or one taken out.
+func nearTexts(s string, bytes string) []string {
 	near := []string{}
 	for i := range len(s) + 1 {
-		for _, sign := range "0159 -+x\n" {
-			near = append(near, s[:i]+string(sign)+s[i:])
+		for at := range len(bytes) {
+			near = append(near, s[:i]+bytes[at:at+1]+s[i:])
 			if i < len(s) {
-				near = append(near, s[:i]+string(sign)+s[i+1:])
+				near = append(near, s[:i]+bytes[at:at+1]+s[i+1:])
 			}
 		}
 		if i < len(s) {
@@ -412,7 +412,7 @@ func nearTexts(s string) []string {
 
 func TestAggReadTakesOnlyTexts(t *testing.T) {
 	for _, a := range acceptedAggs() {
-		for _, s := range nearTexts(impl.AggText(a)) {
+		for _, s := range nearTexts(impl.AggText(a), "0159 -+x\n") {
 			if got, ok := impl.AggRead(s); ok && impl.AggText(got) != s {
 				t.Errorf("AggRead(%q) = %v, whose text is %q", s, got, impl.AggText(got))
 			} else if !ok && got != (impl.Agg{}) {
