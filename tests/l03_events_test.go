@@ -530,14 +530,20 @@ func logs(bytes int, counts ...int) []impl.Part {
 	return list
 }
 
-func TestLogsOk(t *testing.T) {
+// acceptedLogs holds ordinary logs and those at a limit, with records of any bytes.
+func acceptedLogs() [][]impl.Part {
 	const recs, length = impl.MaxRecs, impl.MaxRec
-	accepted := [][]impl.Part{
+	return [][]impl.Part{
 		logs(0, 0), logs(0, 1), logs(length, recs), logs(9, 0, 0, 0), logs(length, recs, recs, recs), logs(length-1, recs-1, 0),
 		{{Recs: []string{"?", "", "e 1 2", "e 1 2 3 4 5", "\n", "\xff", strings.Repeat("\xff", length), strings.Repeat("\n", length)}}},
 		{{Recs: []string{strings.Repeat("é", 30)}}, {Recs: []string{strings.Repeat("€", 20)}}},
 	}
-	refused := [][]impl.Part{
+}
+
+// refusedLogs holds those with a single limit passed.
+func refusedLogs() [][]impl.Part {
+	const recs, length = impl.MaxRecs, impl.MaxRec
+	return [][]impl.Part{
 		nil, {}, logs(0, 0, 0, 0, 0), logs(length, recs, recs, recs, recs), logs(0, filled(100, 0)...),
 		logs(0, recs+1), logs(0, recs+1, 0, 0), logs(0, 0, recs+1, 0), logs(0, 0, 0, recs+1), logs(0, 10*recs),
 		logs(length+1, 1), logs(length+1, 0, 0, 1), logs(100000, 1),
@@ -546,13 +552,16 @@ func TestLogsOk(t *testing.T) {
 		// Bytes are counted, not signs.
 		{{Recs: []string{strings.Repeat("é", 31)}}}, {{Recs: []string{strings.Repeat("€", 20) + "x"}}},
 	}
+}
+
+func TestLogsOk(t *testing.T) {
 	for _, c := range acceptedConfigs() {
-		for _, list := range accepted {
+		for _, list := range acceptedLogs() {
 			if !impl.LogsOk(c, list) {
 				t.Errorf("LogsOk(%v) of %d parts = false", c, len(list))
 			}
 		}
-		for _, list := range refused {
+		for _, list := range refusedLogs() {
 			if impl.LogsOk(c, list) {
 				t.Errorf("LogsOk(%v) of %d parts = true", c, len(list))
 			}
