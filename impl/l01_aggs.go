@@ -66,7 +66,7 @@ func AggText(a Agg) string {
 	if !AggOk(a) {
 		return ""
 	}
-	return strings.Join(a.words(), " ")
+	return numsText(a.nums())
 }
 
 func AggRead(s string) (Agg, bool) {
@@ -83,7 +83,7 @@ func AggRead(s string) (Agg, bool) {
 		}
 		nums[i] = n
 	}
-	a := Agg{N: nums[wordN], Sum: nums[wordSum], Min: nums[wordMin], Max: nums[wordMax]}
+	a := aggFrom(nums[:])
 	if !AggOk(a) {
 		return Agg{}, false
 	}
@@ -117,17 +117,30 @@ func (a Agg) with(b Agg) Agg {
 	return Agg{N: a.N + b.N, Sum: a.Sum + b.Sum, Min: min(a.Min, b.Min), Max: max(a.Max, b.Max)}
 }
 
-func (a Agg) words() []string {
-	words := make([]string, aggWords)
-	words[wordN] = NumText(a.N)
-	words[wordSum] = NumText(a.Sum)
-	words[wordMin] = NumText(a.Min)
-	words[wordMax] = NumText(a.Max)
-	return words
+func (a Agg) nums() []int {
+	nums := make([]int, aggWords)
+	nums[wordN] = a.N
+	nums[wordSum] = a.Sum
+	nums[wordMin] = a.Min
+	nums[wordMax] = a.Max
+	return nums
+}
+
+// aggFrom is for as many numbers as an aggregate has.
+func aggFrom(nums []int) Agg {
+	return Agg{N: nums[wordN], Sum: nums[wordSum], Min: nums[wordMin], Max: nums[wordMax]}
 }
 
 func isValue(v int) bool {
 	return v >= -MaxVal && v <= MaxVal
+}
+
+func numsText(nums []int) string {
+	words := make([]string, 0, len(nums))
+	for _, n := range nums {
+		words = append(words, NumText(n))
+	}
+	return strings.Join(words, " ")
 }
 
 // numRead holds the number's text against the word, since Atoi also takes a `+` and noughts ahead.
